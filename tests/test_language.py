@@ -35,6 +35,10 @@ type typing typing_extensions enum Enum IntEnum StrEnum Flag IntFlag Generic Pro
 namedtuple NamedTuple TypedDict TYPE_CHECKING abstractmethod
 """.split())
 
+WALKED = ("zip", "enumerate", "reversed", "range", "items", "keys", "values")
+TAKERS = ("list", "tuple", "dict", "sorted", "sum", "any", "all", "enumerate", "zip", "min", "max")
+PYTHON_S_OWN = {name for value in ("", 0, [], (), {}, set(), b"") for name in dir(value)}
+
 WORD_PARTS = ("dataclass", "overload", "contextmanager")
 DUNDERS = ("__init__", "__eq__", "__repr__", "__str__", "__len__")
 
@@ -131,6 +135,8 @@ class Language(unittest.TestCase):
         own = set(dir(builtins))
         for path, tree in self.trees.items():
             bound = bound_names(tree)
+            drawn = [name.name for node in tree.body if isinstance(node, ast.ImportFrom) for name in node.names]
+            self.assertEqual(set(bound) & set(drawn), set(), path.name)
             for name in bound:
                 self.assertNotIn(name, own, path.name)
                 if name not in DUNDERS:
@@ -139,9 +145,45 @@ class Language(unittest.TestCase):
                 if isinstance(node, ast.Name) and node.id in own:
                     self.assertIn(node.id, OWN_NAMES, f"{path.name}:{node.lineno}")
 
-    def test_methods(self):
+    def test_methods_and_values(self):
+        values = set()
+        for place, node in self.nodes(ast.ClassDef):
+            for part in ast.walk(node):
+                if isinstance(part, ast.Attribute) and isinstance(part.ctx, ast.Store):
+                    self.assertEqual(part.value.id, "self", place)
+                    self.assertNotIn(part.attr, PYTHON_S_OWN, place)
+                    values.add(part.attr)
+        called = [node.func for place, node in self.nodes(ast.Call)]
         for place, node in self.nodes(ast.Attribute):
-            self.assertIn(node.attr, METHODS, place)
+            if node.attr not in values:
+                self.assertIn(node.attr, METHODS, place)
+                self.assertIn(node, called, place)
+
+    def test_walked_on_the_spot(self):
+        walked = []
+        for place, node in self.nodes((ast.For, ast.comprehension)):
+            walked.append(node.iter)
+        for place, node in self.nodes(ast.Call):
+            if isinstance(node.func, ast.Name) and node.func.id in TAKERS:
+                walked.extend(node.args[:1])
+        for place, node in self.nodes(ast.Call):
+            name = node.func.attr if isinstance(node.func, ast.Attribute) else node.func.id
+            if name in WALKED:
+                self.assertIn(node, walked, place)
+
+    def test_comprehensions_and_lambdas(self):
+        for place, node in self.nodes(ast.ListComp):
+            self.assertEqual(len(node.generators), 1, place)
+            self.assertLessEqual(len(node.generators[0].ifs), 1, place)
+        lines = [place for place, node in self.nodes(ast.Lambda)]
+        self.assertEqual(len(lines), len(set(lines)))
+
+    def test_is_stands_beside_none_true_and_false_alone(self):
+        for place, node in self.nodes(ast.Compare):
+            for sign, value in zip(node.ops, node.comparators):
+                if isinstance(sign, (ast.Is, ast.IsNot)):
+                    self.assertIsInstance(value, ast.Constant, place)
+                    self.assertIn(value.value, (None, True, False), place)
 
     def test_imports_stand_at_the_top_and_name_the_package_s_own_files(self):
         for path, tree in self.trees.items():

@@ -2,6 +2,9 @@
 
 from wareplan.errors import NoFraction
 
+NOUGHT = (0, 1)
+ONE = (1, 1)
+
 
 # Neither number is below nought, and not both are nought.
 def common_divisor(one, two):
@@ -20,6 +23,10 @@ def made(top, bottom):
     if bottom < 0:
         divisor = -divisor
     return (top // divisor, bottom // divisor)
+
+
+def opposite(fraction):
+    return (-fraction[0], fraction[1])
 
 
 def plus(one, two):
